@@ -1,0 +1,1 @@
+"""Bedtwos: guests put in twos, and the rings by which that can't be."""
