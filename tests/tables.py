@@ -50,6 +50,13 @@ RING_OF_THREE = [[1, 2], [2, 0], [0, 1]]
 # Two calm mates, and guest 4, whom all of the others would have last, alone in both.
 SQUARE_AND_ONE = [[1, 3, 4], [2, 0, 4], [3, 1, 4], [0, 2, 4], [0, 1, 2, 3]]
 
+# As the ring of three, with two more in it, and with three more: of six there are calm mates again.
+RING_OF_FIVE = [[1, 4], [2, 0], [3, 1], [4, 2], [0, 3]]
+RING_OF_SIX = [[1, 5], [2, 0], [3, 1], [4, 2], [5, 3], [0, 4]]
+
+# The ring of three, and another one of guests 3 to 5, who would have the first three last.
+TWO_RINGS = [[1, 2, 3, 4, 5], [2, 0, 3, 4, 5], [0, 1, 3, 4, 5], [4, 5, 0, 1, 2], [5, 3, 0, 1, 2], [3, 4, 0, 1, 2]]
+
 # What is no guest of any table, whoever is asked for.
 NO_NUMBERS = [True, False, "0", "", 0.0, 1.0, [], [0], (0,), {}, {0}, b"0"]
 
@@ -59,6 +66,19 @@ NO_GUESTS = NO_NUMBERS + [-1, -6, 6, 7, 10**5000, -(10**5000)]
 NO_TABLES = [None, True, 0, 3, "", "01", (), ([],), ([1], [0]), {}, {0: [1], 1: [0]}, {1}, b"", [], [[]] * 7, [[]] * 50]
 
 NO_ROWS = [None, True, False, 0, 1, 1.5, "", "1", (), (1,), {}, {1: 0}, {1}, b"\x01", range(1, 2)]
+
+
+# What is no list of next ones, whatever the number of guests.
+NO_PARTIES = [
+    *(None, True, False, 0, 3, "", "0", "10", b"", range(2), {}, {0: 0}, {0: 1, 1: 0}, {0}),
+    *((), (0,), (1, 0), (1, 2, 0), [], [0, 1, 2, 3, 4, 5, 6], [1, 2, 3, 4, 5, 6, 0], [0] * 7, list(range(50))),
+    *([1], [-1], [0, 0], [1, 1], [0, 2], [-1, 0], [1, -2], [2, 0, 2], [1, 2, 1], [1, 2, 3], [1, 2, 3, 4, 5, 1]),
+    *([wrong] for wrong in NO_GUESTS + [None]),
+    *([1, wrong] for wrong in NO_GUESTS + [None]),
+    *([wrong, 0] for wrong in NO_GUESTS + [None]),
+    *([wrong, 2, 3, 4, 5, 0] for wrong in NO_GUESTS + [None]),
+    *([1, 2, 3, 4, 5, wrong] for wrong in NO_GUESTS + [None]),
+]
 
 
 def wrong_tables():

@@ -29,9 +29,12 @@ class FormTest(TestCase):
                 if isinstance(node, ast.FunctionDef):
                     self.assertLessEqual(node.end_lineno - node.lineno + 1, 40, node.name)
 
-    def test_imports_are_of_the_package_alone(self):
+    def test_imports_are_of_the_package_and_what_it_may_have_of_the_library(self):
         for path in FILES:
             for node in ast.walk(ast.parse(path.read_text("ascii"))):
                 self.assertNotIsInstance(node, ast.Import, path.name)
                 if isinstance(node, ast.ImportFrom):
-                    self.assertEqual((0, True), (node.level, node.module.startswith("bedtwos.")), path.name)
+                    self.assertEqual(0, node.level, path.name)
+                    names = [(node.module, alias.name) for alias in node.names]
+                    if names != [("itertools", "permutations")]:
+                        self.assertTrue(node.module.startswith("bedtwos."), path.name)

@@ -6,11 +6,13 @@ from importlib import import_module
 from pathlib import Path
 from unittest import TestCase
 
-from bedtwos import errors, twos, wishes
+from bedtwos import dealing, errors, inn, notes, parties, twos, wishes
 
 PACKAGE = Path(wishes.__file__).parent
 
-CLASSES = {"errors": ["BedError", "BadWishes", "BadGuest", "BadMates", "BadParties", "NoNote"]}
+CLASSES = {"errors": ["BedError", "BadWishes", "BadGuest", "BadMates", "BadParties", "NoNote"], "inn": ["Inn"]}
+
+METHODS = {"__init__": ["self", "wishes"], "turn": ["self", "guest", "row"], "twos": ["self"], "table": ["self"]}
 
 FUNCTIONS = {
     "wishes": {
@@ -24,6 +26,9 @@ FUNCTIONS = {
         "all_twos": ["wishes"],
         "all_calm": ["wishes"],
     },
+    "parties": {"rings": ["after"], "holds": ["wishes", "after"], "paired": ["after", "ahead"]},
+    "dealing": {"dealt": ["wishes"]},
+    "notes": {"shown": ["wishes"], "read": ["text"]},
 }
 
 
@@ -46,6 +51,11 @@ class InterfaceTest(TestCase):
             for name in classes:
                 with self.subTest(module=module, name=name):
                     self.assertIn(name, defined(module, ast.ClassDef))
+
+    def test_the_methods_of_an_inn_stand_in_the_class_itself(self):
+        for name, arguments in METHODS.items():
+            with self.subTest(name=name):
+                self.assertEqual(arguments, list(inspect.signature(vars(inn.Inn)[name]).parameters))
 
     def test_most_guests(self):
         self.assertEqual(6, wishes.MOST_GUESTS)
@@ -74,3 +84,25 @@ class InterfaceTest(TestCase):
         self.assertEqual((list, tuple), (type(pairs), type(pairs[0])))
         for answer in (twos.all_twos(table), twos.all_calm(table)):
             self.assertEqual((list, list), (type(answer), type(answer[0])))
+
+    def test_kinds_of_values_of_parties_and_notes(self):
+        ring = [[1, 2], [2, 0], [0, 1]]
+        found = parties.rings([1, 0, 2])
+        self.assertEqual((list, list), (type(found), type(found[0])))
+        self.assertIs(True, parties.holds(ring, [1, 2, 0]))
+        self.assertIs(False, parties.holds(ring, [0, 1, 2]))
+        self.assertIs(list, type(parties.paired([1, 0, 2], False)))
+        for table in (ring, [[]]):
+            answer = dealing.dealt(table)
+            self.assertEqual((tuple, 2), (type(answer), len(answer)))
+            self.assertEqual((str, list), (type(answer[0]), type(answer[1])))
+        self.assertIs(str, type(notes.shown(ring)))
+        wishes_read = notes.read("0: 1\n1:")
+        self.assertEqual((list, list), (type(wishes_read), type(wishes_read[0])))
+
+    def test_kinds_of_values_of_an_inn(self):
+        house = inn.Inn(wishes=[[1], [0]])
+        self.assertEqual((list, list), (type(house.table()), type(house.table()[0])))
+        self.assertIs(list, type(house.twos()))
+        self.assertIsNone(house.turn(guest=0, row=[]))
+        self.assertIsNone(inn.Inn([[1, 2], [2, 0], [0, 1]]).twos())

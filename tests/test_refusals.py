@@ -1,11 +1,17 @@
 """Point 14: what is refused, with what, and in which order."""
 
-from bedtwos.errors import BadGuest, BadMates, BadWishes
+from bedtwos.dealing import dealt
+from bedtwos.errors import BadGuest, BadMates, BadParties, BadWishes
+from bedtwos.inn import Inn
+from bedtwos.notes import shown
+from bedtwos.parties import holds, paired, rings
 from bedtwos.twos import all_calm, all_twos, calm, restless
 from bedtwos.wishes import need_wishes, rather, suits
+from tests import reckoning
 from tests.refusing import RefusalTest
-from tests.tables import NO_GUESTS, RING_OF_THREE, wrong_tables
+from tests.tables import NO_GUESTS, NO_PARTIES, RING_OF_THREE, wrong_tables
 
+OF_WISHES_ALONE = (need_wishes, all_twos, all_calm, dealt, Inn, shown)
 OF_MATES = (restless, calm)
 
 # 0 and 1, 1 and 2 suit each other, 0 and 2 don't: 2's wish for 0 is not returned.
@@ -16,12 +22,24 @@ class BadWishesTest(RefusalTest):
     def test_at_every_function(self):
         for name, table in wrong_tables():
             with self.subTest(name):
-                for function in (need_wishes, all_twos, all_calm):
+                for function in OF_WISHES_ALONE:
                     self.assert_refused(BadWishes, function, table)
                 self.assert_refused(BadWishes, suits, table, 0, 0)
                 self.assert_refused(BadWishes, rather, table, 0, None, None)
                 for function in OF_MATES:
                     self.assert_refused(BadWishes, function, table, [None])
+                for after in ([0], [1, 0], [0, 1, 2], [0, 1, 2, 3, 4, 5]):
+                    self.assert_refused(BadWishes, holds, table, after)
+
+    def test_with_all_else_wrong(self):
+        for name, table in wrong_tables():
+            with self.subTest(name):
+                self.assert_refused(BadWishes, suits, table, True, -1)
+                self.assert_refused(BadWishes, rather, table, "0", 7, [])
+                for function in OF_MATES:
+                    self.assert_refused(BadWishes, function, table, (7, "0"))
+                for after in (None, [], [0, 0], [True], (1, 0)):
+                    self.assert_refused(BadWishes, holds, table, after)
 
     def test_ahead_of_all_else(self):
         for table in (None, [], [[]] * 7, [[0]], [[1, 1], [0]], [[1], [True]], [[1], (0,)]):
@@ -31,6 +49,8 @@ class BadWishesTest(RefusalTest):
             for function in OF_MATES:
                 for wrong in (None, "", (), [], [0], [7, 7], [1, None]):
                     self.assert_refused(BadWishes, function, table, wrong)
+            for wrong in NO_PARTIES:
+                self.assert_refused(BadWishes, holds, table, wrong)
 
 
 class BadGuestTest(RefusalTest):
@@ -111,3 +131,65 @@ class BadMatesTest(RefusalTest):
         self.assert_no_mates([[]], [0])
         self.assert_no_mates(THREE, [0, None, None])
         self.assert_no_mates(THREE, [1, 0, 2])
+
+
+class BadPartiesTest(RefusalTest):
+    def assert_no_parties(self, after):
+        self.assert_refused(BadParties, rings, after)
+        for ahead in (False, True):
+            self.assert_refused(BadParties, paired, after, ahead)
+        for many in range(1, 7):
+            self.assert_refused(BadParties, holds, [[] for _ in range(many)], after)
+
+    def test_no_list_of_next_ones(self):
+        for place, after in enumerate(NO_PARTIES):
+            with self.subTest(place=place):
+                self.assert_no_parties(after)
+
+    def test_each_place_wrong_alone(self):
+        for many in range(1, 7):
+            for place in range(many):
+                others = [guest for guest in range(many) if guest != place]
+                for wrong in NO_GUESTS + [None, many, -many, *others]:
+                    after = list(range(many))
+                    after[place] = wrong
+                    self.assert_no_parties(after)
+
+    def test_of_one_to_six_guests(self):
+        for many in range(1, 7):
+            after = list(range(many))
+            self.assertEqual([[guest] for guest in after], rings(after))
+            self.assertEqual([None] * many, paired(after, True))
+            self.assert_no_parties(tuple(after))
+        self.assert_no_parties([])
+        self.assert_no_parties(list(range(7)))
+
+    def test_as_many_as_there_are_guests(self):
+        for many in range(1, 7):
+            table = [[] for _ in range(many)]
+            for length in range(1, 7):
+                after = list(range(length))
+                if length == many:
+                    self.assertIs(True, holds(table, after))
+                else:
+                    self.assert_refused(BadParties, holds, table, after)
+        self.assert_refused(BadParties, holds, RING_OF_THREE, [1, 0])
+        self.assert_refused(BadParties, holds, RING_OF_THREE, [1, 2, 0, 3])
+
+    def test_what_equals_a_guest_but_is_none(self):
+        for after in ([True, 0], [1, False], [True, False], [1.0, 0], [False], [0.0]):
+            self.assert_no_parties(after)
+
+    def test_a_party_of_three_or_of_five_is_not_put_in_twos(self):
+        refused = 0
+        for many in range(1, 7):
+            for after in reckoning.every_after(many):
+                if reckoning.has_odd_party(after):
+                    refused += 1
+                    for ahead in (False, True):
+                        self.assert_refused(BadParties, paired, after, ahead)
+        # Those of each size without such a party are 1, 2, 4, 16, 56 and 376.
+        self.assertEqual(1 + 2 + 6 + 24 + 120 + 720 - 455, refused)
+        self.assert_refused(BadParties, paired, [1, 2, 0], False)
+        self.assert_refused(BadParties, paired, [1, 0, 3, 4, 2, 5], True)
+        self.assert_refused(BadParties, paired, [0, 2, 3, 4, 5, 1], False)
